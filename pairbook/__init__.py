@@ -1,0 +1,1 @@
+"""Pairbook: accounts kept in pairs, with undo and redo."""
